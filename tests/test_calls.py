@@ -1,0 +1,205 @@
+"""What holds for every call: the refusals and their order, and the interface."""
+
+import unittest
+
+import toandfrodesk.machines
+from tests.helper import STOP, Draws, below_zero, left, right, to_and_fro
+from toandfrodesk.machines import run, steps
+
+NOT_N = (0, 6, 7, 255, 2147483647, below_zero(-1), below_zero(-5), 2147483648)
+NOT_K = (0, 5, 6, 255, 2147483647, below_zero(-1), below_zero(-4), 2147483648)
+NOT_LENGTH = (4097, 65536, 2147483647, below_zero(-1), below_zero(-60), 2147483648)
+
+
+class Refusals(unittest.TestCase):
+    def refused(self, number, n, k, length, rules, word, good=0):
+        self.assertEqual(run(n, k, good, length, rules, word), [number])
+        self.assertEqual(steps(n, k, length, rules, word), [number])
+
+    def not_refused(self, n, k, length, rules, word, good=0):
+        self.assertGreaterEqual(run(n, k, good, length, rules, word)[0], 0)
+        self.assertNotIn(steps(n, k, length, rules, word)[0], (-2, -3))
+
+
+class OutOfRange(Refusals):
+    def test_n(self):
+        for n in NOT_N:
+            self.refused(-2, n, 1, 2, [], [0, 0])
+
+    def test_k(self):
+        for k in NOT_K:
+            self.refused(-2, 1, k, 2, [], [0, 0])
+
+    def test_length(self):
+        for length in NOT_LENGTH:
+            self.refused(-2, 1, 1, length, [1, 1, 1], [])
+
+    def test_all_of_them(self):
+        self.refused(-2, 0, 0, below_zero(-1), [], [])
+        self.refused(-2, 6, 5, 4097, [], [])
+
+    def test_the_edges_are_in_range(self):
+        for n in (1, 5):
+            for k in (1, 4):
+                for length in (0, 60):
+                    self.not_refused(n, k, length, [1] * (n * (k + 2)), [k - 1] * length)
+
+    def test_the_longest_length_is_in_range(self):
+        # Longer than any word that is handed in, but in the range that the document gives.
+        self.assertEqual(run(1, 1, 1, 4096, [1, 1, 1], [0] * 4096), [1])
+        self.assertEqual(steps(1, 1, 4096, [1, 1, 1], [0] * 4096), [4098])
+
+    def test_a_number_modulo_two_to_the_32_is_taken_as_it_is_meant(self):
+        self.assertEqual(below_zero(-1), 4294967295)
+        self.refused(-2, 4294967295, 1, 0, [], [])
+        self.refused(-2, 1, 4294967295, 0, [], [])
+        self.refused(-2, 1, 1, 4294967295, [1, 1, 1], [])
+
+
+class NotAsTold(Refusals):
+    def test_a_rule_of_a_state_that_is_not_there(self):
+        for n in range(1, 6):
+            for k in range(1, 5):
+                for at in range(n * (k + 2)):
+                    for rule in (2 * n, 2 * n + 1, 254):
+                        rules = [1] * (n * (k + 2))
+                        rules[at] = rule
+                        self.refused(-3, n, k, 0, rules, [])
+
+    def test_the_highest_rules_that_are_told(self):
+        for n in range(1, 6):
+            for k in range(1, 5):
+                for at in range(n * (k + 2)):
+                    for rule in (2 * n - 1, STOP):
+                        rules = [1] * (n * (k + 2))
+                        rules[at] = rule
+                        self.not_refused(n, k, 0, rules, [])
+
+    def test_a_rule_that_goes_left(self):
+        for n in range(1, 6):
+            for k in range(1, 5):
+                for at in range(n * (k + 2)):
+                    for state in range(n):
+                        rules = [1] * (n * (k + 2))
+                        rules[at] = left(state)
+                        if at % (k + 2) == k:
+                            self.refused(-3, n, k, 1, rules, [0])
+                        else:
+                            self.not_refused(n, k, 1, rules, [0])
+
+    def test_a_rule_that_no_run_comes_to(self):
+        rules = [STOP, STOP, STOP, STOP, left(0), STOP]
+        self.refused(-3, 2, 1, 0, rules, [])
+
+    def test_a_letter_that_is_not_there(self):
+        for k in range(1, 5):
+            for letter in (k, k + 1, k + 2, 254, 255):
+                for length in (1, 2, 60):
+                    for at in (0, length // 2, length - 1):
+                        word = [0] * length
+                        word[at] = letter
+                        self.refused(-3, 2, k, length, [1] * (2 * (k + 2)), word)
+
+    def test_a_letter_that_no_run_comes_to(self):
+        self.refused(-3, 1, 1, 2, [1, STOP, 1], [0, 1])
+
+    def test_good(self):
+        for n in range(1, 6):
+            rules = to_and_fro(n, 1)
+            for good in (2 ** n, 2 ** n + 1, 2 ** 31 - 1, 2 ** 31, 2 ** 32 - 2 ** n, 2 ** 32 - 1):
+                self.assertEqual(run(n, 1, good, 1, rules, [0]), [-3])
+            for good in (0, 2 ** n - 1):
+                self.not_refused(n, 1, 1, rules, [0], good)
+
+    def test_good_is_asked_even_where_the_run_does_not_leave(self):
+        self.assertEqual(run(1, 1, 2, 0, [1, STOP, 1], []), [-3])
+        self.assertEqual(run(1, 1, 2, 0, [1, 1, 0], []), [-3])
+
+
+class BothKinds(Refusals):
+    def test_out_of_range_comes_first(self):
+        for n in NOT_N:
+            self.refused(-2, n, 1, 1, [], [7], good=2 ** 32 - 1)
+        for k in NOT_K:
+            self.refused(-2, 1, k, 1, [], [255], good=2 ** 32 - 1)
+        for length in NOT_LENGTH:
+            self.refused(-2, 1, 1, length, [1, 0, 2], [], good=2 ** 32 - 1)
+
+    def test_not_as_told_comes_before_going_on_for_ever(self):
+        self.assertEqual(steps(1, 1, 1, [0, 1, 2], [0]), [-3])
+        self.assertEqual(steps(1, 1, 2, [0, 1, 1], [0, 1]), [-3])
+
+
+class Interface(unittest.TestCase):
+    def calls(self):
+        """Each a function, its numbers, its rules and its word; all kinds of answers are among them."""
+        draws = Draws(3)
+        made = []
+        for turn in range(60):
+            n, k = 1 + draws.below(5), 1 + draws.below(4)
+            rules, word = draws.rules(n, k), draws.word(k, draws.below(61))
+            made.append((run, (n, k, draws.below(2 ** n), len(word)), rules, word))
+            made.append((steps, (n, k, len(word)), rules, word))
+        made.append((run, (0, 1, 0, 1), [], [0]))
+        made.append((steps, (1, 1, below_zero(-1)), [1, 1, 1], []))
+        made.append((run, (1, 1, 2, 1), [1, 1, 1], [0]))
+        made.append((steps, (1, 1, 1), [1, 0, 1], [0]))
+        made.append((steps, (1, 1, 1), [1, 1, 0], [0]))
+        return made
+
+    def test_answers_are_lists_of_one_whole_number(self):
+        for function, numbers, rules, word in self.calls():
+            answer = function(*numbers, rules, word)
+            self.assertIs(type(answer), list)
+            self.assertEqual([type(number) for number in answer], [int])
+
+    def test_what_is_handed_in_stays(self):
+        for function, numbers, rules, word in self.calls():
+            rules_before, word_before = list(rules), list(word)
+            function(*numbers, rules, word)
+            self.assertEqual((rules, word), (rules_before, word_before))
+
+    def test_what_is_handed_in_is_not_changed_for_a_while_either(self):
+        for function, numbers, rules, word in self.calls():
+            answer = function(*numbers, rules, word)
+            self.assertEqual(function(*numbers, Unchanging(rules), Unchanging(word)), answer)
+
+    def test_nothing_is_kept(self):
+        calls = self.calls()
+        once = [function(*numbers, rules, word) for function, numbers, rules, word in calls]
+        calls.reverse()
+        again = [function(*numbers, rules, word) for function, numbers, rules, word in calls]
+        again.reverse()
+        self.assertEqual(once, again)
+
+    def test_an_answer_is_the_callers_own(self):
+        for function, numbers, rules, word in self.calls():
+            answer = function(*numbers, rules, word)
+            kept = list(answer)
+            answer.append(99)
+            self.assertEqual(function(*numbers, rules, word), kept)
+
+    def test_names_and_order_of_arguments(self):
+        for name, wanted in (("run", ("n", "k", "good", "length", "rules", "word")),
+                             ("steps", ("n", "k", "length", "rules", "word"))):
+            code = getattr(toandfrodesk.machines, name).__code__
+            self.assertEqual(code.co_varnames[:code.co_argcount], wanted)
+
+    def test_arguments_by_name(self):
+        rules = [right(1), right(0), right(0), right(0), right(0), right(0)]
+        self.assertEqual(run(word=[0], rules=rules, length=1, good=1, k=1, n=2), [1])
+        self.assertEqual(steps(word=[0], rules=rules, length=1, k=1, n=2), [3])
+
+
+class Unchanging(list):
+    """A list that refuses each change."""
+
+    def refuse(self, *given):
+        raise AssertionError("a list that was handed in was changed")
+
+    append = clear = extend = insert = pop = remove = reverse = sort = refuse
+    __setitem__ = __delitem__ = __iadd__ = __imul__ = refuse
+
+
+if __name__ == "__main__":
+    unittest.main()

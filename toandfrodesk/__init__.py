@@ -1,0 +1,1 @@
+"""Texts read to and fro by machines of few states."""

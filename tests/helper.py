@@ -1,6 +1,9 @@
-"""Machines for the tests, and a second way to find how a run ends."""
+"""Machines for the tests, and second ways to find how a run ends, a word's table and the kinds of words."""
+
+from itertools import product
 
 STOP = 255
+NEVER = 255
 
 
 def right(state):
@@ -65,6 +68,80 @@ def expected_run(k, good, rules, word):
 def expected_steps(k, rules, word):
     end = follow(k, rules, word)
     return [-5] if end[0] == "goes on" else [end[2]]
+
+
+def cross(k, rules, word, place, state):
+    """The state in which it first goes right from the last place, begun at a place (the left end is 0), or NEVER."""
+    row = [k] + word
+    been = set()
+    while (place, state) not in been:
+        been.add((place, state))
+        rule = rules[state * (k + 2):(state + 1) * (k + 2)][row[place]]
+        if rule == STOP:
+            return NEVER
+        state, rightward = divmod(rule, 2)
+        if rightward and place == len(word):
+            return state
+        place += 1 if rightward else -1
+    return NEVER
+
+
+def expected_table(n, k, rules, word):
+    """The table step by step along the whole row, for each beginning anew."""
+    return [0, cross(k, rules, word, 0, 0)] + [cross(k, rules, word, len(word), state) for state in range(n)]
+
+
+def takes(k, good, rules, word):
+    return expected_run(k, good, rules, word) == [1]
+
+
+def expected_states(n, k, good, rules):
+    """A word for each table, each letter put behind them, and pairs of tables told apart until no more can be."""
+    words = {tuple(expected_table(n, k, rules, [])): []}
+    onward = {}
+    waiting = [[]]
+    while waiting:
+        word = waiting.pop()
+        longer = [word + [letter] for letter in range(k)]
+        found = [tuple(expected_table(n, k, rules, one)) for one in longer]
+        onward[tuple(expected_table(n, k, rules, word))] = found
+        for table, one in zip(found, longer):
+            if table not in words:
+                words[table] = one
+                waiting.append(one)
+    taken = {table: takes(k, good, rules, word) for table, word in words.items()}
+    apart = {(one, two) for one in words for two in words if taken[one] != taken[two]}
+    more = True
+    while more:
+        more = {(one, two) for one in words for two in words if (one, two) not in apart
+                and any(pair in apart for pair in zip(onward[one], onward[two]))}
+        apart |= more
+    kinds = []
+    for table in words:
+        if all((table, other) in apart for other in kinds):
+            kinds.append(table)
+    return [len(kinds)]
+
+
+def kinds_of_short_words(k, good, rules, longest):
+    """How many kinds the words up to a length fall in, when words up to that length are put behind them.
+
+    It asks of whole words alone whether they are taken. No more than all kinds; all of them, if those are at most
+    longest + 1: a shortest word of a kind goes through a new one at each letter, and a shortest word that tells two
+    kinds apart parts one kind more at each letter.
+    """
+    words = [list(word) for length in range(longest + 1) for word in product(range(k), repeat=length)]
+    taken = {}
+    rows = set()
+    for word in words:
+        row = []
+        for behind in words:
+            whole = tuple(word + behind)
+            if whole not in taken:
+                taken[whole] = takes(k, good, rules, list(whole))
+            row.append(taken[whole])
+        rows.add(tuple(row))
+    return len(rows)
 
 
 class Draws:

@@ -4,7 +4,7 @@ import unittest
 
 import toandfrodesk.machines
 from tests.helper import STOP, Draws, below_zero, left, right, to_and_fro
-from toandfrodesk.machines import run, steps
+from toandfrodesk.machines import run, states, steps, table
 
 NOT_N = (0, 6, 7, 255, 2147483647, below_zero(-1), below_zero(-5), 2147483648)
 NOT_K = (0, 5, 6, 255, 2147483647, below_zero(-1), below_zero(-4), 2147483648)
@@ -13,22 +13,31 @@ NOT_LENGTH = (4097, 65536, 2147483647, below_zero(-1), below_zero(-60), 21474836
 
 class Refusals(unittest.TestCase):
     def refused(self, number, n, k, length, rules, word, good=0):
+        """Each call that is given a word."""
         self.assertEqual(run(n, k, good, length, rules, word), [number])
         self.assertEqual(steps(n, k, length, rules, word), [number])
+        self.assertEqual(table(n, k, length, rules, word), [number])
 
-    def not_refused(self, n, k, length, rules, word, good=0):
-        self.assertGreaterEqual(run(n, k, good, length, rules, word)[0], 0)
-        self.assertNotIn(steps(n, k, length, rules, word)[0], (-2, -3))
+    def machine_refused(self, number, n, k, rules, word, good=0):
+        """Each call, with a word that is as long as told."""
+        self.refused(number, n, k, len(word), rules, word, good)
+        self.assertEqual(states(n, k, good, rules), [number])
+
+    def not_refused(self, n, k, rules, word, good=0):
+        self.assertGreaterEqual(run(n, k, good, len(word), rules, word)[0], 0)
+        self.assertNotIn(steps(n, k, len(word), rules, word)[0], (-2, -3))
+        self.assertEqual(table(n, k, len(word), rules, word)[0], 0)
+        self.assertGreaterEqual(states(n, k, good, rules)[0], 1)
 
 
 class OutOfRange(Refusals):
     def test_n(self):
         for n in NOT_N:
-            self.refused(-2, n, 1, 2, [], [0, 0])
+            self.machine_refused(-2, n, 1, [], [0, 0])
 
     def test_k(self):
         for k in NOT_K:
-            self.refused(-2, 1, k, 2, [], [0, 0])
+            self.machine_refused(-2, 1, k, [], [0, 0])
 
     def test_length(self):
         for length in NOT_LENGTH:
@@ -37,22 +46,25 @@ class OutOfRange(Refusals):
     def test_all_of_them(self):
         self.refused(-2, 0, 0, below_zero(-1), [], [])
         self.refused(-2, 6, 5, 4097, [], [])
+        self.machine_refused(-2, 0, 0, [], [])
+        self.machine_refused(-2, 6, 5, [], [])
 
     def test_the_edges_are_in_range(self):
         for n in (1, 5):
             for k in (1, 4):
                 for length in (0, 60):
-                    self.not_refused(n, k, length, [1] * (n * (k + 2)), [k - 1] * length)
+                    self.not_refused(n, k, [1] * (n * (k + 2)), [k - 1] * length)
 
     def test_the_longest_length_is_in_range(self):
         # Longer than any word that is handed in, but in the range that the document gives.
         self.assertEqual(run(1, 1, 1, 4096, [1, 1, 1], [0] * 4096), [1])
         self.assertEqual(steps(1, 1, 4096, [1, 1, 1], [0] * 4096), [4098])
+        self.assertEqual(table(1, 1, 4096, [1, 1, 1], [0] * 4096), [0, 0, 0])
 
     def test_a_number_modulo_two_to_the_32_is_taken_as_it_is_meant(self):
         self.assertEqual(below_zero(-1), 4294967295)
-        self.refused(-2, 4294967295, 1, 0, [], [])
-        self.refused(-2, 1, 4294967295, 0, [], [])
+        self.machine_refused(-2, 4294967295, 1, [], [])
+        self.machine_refused(-2, 1, 4294967295, [], [])
         self.refused(-2, 1, 1, 4294967295, [1, 1, 1], [])
 
 
@@ -64,7 +76,7 @@ class NotAsTold(Refusals):
                     for rule in (2 * n, 2 * n + 1, 254):
                         rules = [1] * (n * (k + 2))
                         rules[at] = rule
-                        self.refused(-3, n, k, 0, rules, [])
+                        self.machine_refused(-3, n, k, rules, [])
 
     def test_the_highest_rules_that_are_told(self):
         for n in range(1, 6):
@@ -73,7 +85,7 @@ class NotAsTold(Refusals):
                     for rule in (2 * n - 1, STOP):
                         rules = [1] * (n * (k + 2))
                         rules[at] = rule
-                        self.not_refused(n, k, 0, rules, [])
+                        self.not_refused(n, k, rules, [])
 
     def test_a_rule_that_goes_left(self):
         for n in range(1, 6):
@@ -83,13 +95,16 @@ class NotAsTold(Refusals):
                         rules = [1] * (n * (k + 2))
                         rules[at] = left(state)
                         if at % (k + 2) == k:
-                            self.refused(-3, n, k, 1, rules, [0])
+                            self.machine_refused(-3, n, k, rules, [0])
                         else:
-                            self.not_refused(n, k, 1, rules, [0])
+                            self.not_refused(n, k, rules, [0])
 
     def test_a_rule_that_no_run_comes_to(self):
         rules = [STOP, STOP, STOP, STOP, left(0), STOP]
-        self.refused(-3, 2, 1, 0, rules, [])
+        self.machine_refused(-3, 2, 1, rules, [])
+
+    def test_a_rule_for_the_right_end_that_no_table_comes_to(self):
+        self.machine_refused(-3, 1, 1, [1, 1, 2], [])
 
     def test_a_letter_that_is_not_there(self):
         for k in range(1, 5):
@@ -108,20 +123,22 @@ class NotAsTold(Refusals):
             rules = to_and_fro(n, 1)
             for good in (2 ** n, 2 ** n + 1, 2 ** 31 - 1, 2 ** 31, 2 ** 32 - 2 ** n, 2 ** 32 - 1):
                 self.assertEqual(run(n, 1, good, 1, rules, [0]), [-3])
+                self.assertEqual(states(n, 1, good, rules), [-3])
             for good in (0, 2 ** n - 1):
-                self.not_refused(n, 1, 1, rules, [0], good)
+                self.not_refused(n, 1, rules, [0], good)
 
     def test_good_is_asked_even_where_the_run_does_not_leave(self):
-        self.assertEqual(run(1, 1, 2, 0, [1, STOP, 1], []), [-3])
-        self.assertEqual(run(1, 1, 2, 0, [1, 1, 0], []), [-3])
+        for rules in ([1, STOP, 1], [1, 1, 0]):
+            self.assertEqual(run(1, 1, 2, 0, rules, []), [-3])
+            self.assertEqual(states(1, 1, 2, rules), [-3])
 
 
 class BothKinds(Refusals):
     def test_out_of_range_comes_first(self):
         for n in NOT_N:
-            self.refused(-2, n, 1, 1, [], [7], good=2 ** 32 - 1)
+            self.machine_refused(-2, n, 1, [], [7], good=2 ** 32 - 1)
         for k in NOT_K:
-            self.refused(-2, 1, k, 1, [], [255], good=2 ** 32 - 1)
+            self.machine_refused(-2, 1, k, [], [255], good=2 ** 32 - 1)
         for length in NOT_LENGTH:
             self.refused(-2, 1, 1, length, [1, 0, 2], [], good=2 ** 32 - 1)
 
@@ -132,56 +149,70 @@ class BothKinds(Refusals):
 
 class Interface(unittest.TestCase):
     def calls(self):
-        """Each a function, its numbers, its rules and its word; all kinds of answers are among them."""
+        """Each a function, its numbers and its lists; all kinds of answers are among them."""
         draws = Draws(3)
         made = []
         for turn in range(60):
             n, k = 1 + draws.below(5), 1 + draws.below(4)
             rules, word = draws.rules(n, k), draws.word(k, draws.below(61))
-            made.append((run, (n, k, draws.below(2 ** n), len(word)), rules, word))
-            made.append((steps, (n, k, len(word)), rules, word))
-        made.append((run, (0, 1, 0, 1), [], [0]))
-        made.append((steps, (1, 1, below_zero(-1)), [1, 1, 1], []))
-        made.append((run, (1, 1, 2, 1), [1, 1, 1], [0]))
-        made.append((steps, (1, 1, 1), [1, 0, 1], [0]))
-        made.append((steps, (1, 1, 1), [1, 1, 0], [0]))
+            good = draws.below(2 ** n)
+            made.append((run, (n, k, good, len(word)), (rules, word)))
+            made.append((steps, (n, k, len(word)), (rules, word)))
+            made.append((table, (n, k, len(word)), (rules, word)))
+            made.append((states, (n, k, good), (rules,)))
+        made.append((run, (0, 1, 0, 1), ([], [0])))
+        made.append((steps, (1, 1, below_zero(-1)), ([1, 1, 1], [])))
+        made.append((table, (1, 5, 1), ([], [0])))
+        made.append((states, (6, 1, 0), ([],)))
+        made.append((run, (1, 1, 2, 1), ([1, 1, 1], [0])))
+        made.append((steps, (1, 1, 1), ([1, 0, 1], [0])))
+        made.append((table, (1, 1, 1), ([1, 1, 1], [1])))
+        made.append((states, (1, 1, 2), ([1, 1, 1],)))
+        made.append((steps, (1, 1, 1), ([1, 1, 0], [0])))
         return made
 
-    def test_answers_are_lists_of_one_whole_number(self):
-        for function, numbers, rules, word in self.calls():
-            answer = function(*numbers, rules, word)
+    def test_answers_are_lists_of_whole_numbers(self):
+        for function, numbers, lists in self.calls():
+            answer = function(*numbers, *lists)
+            many = numbers[0] + 2 if function is table and answer[0] == 0 else 1
             self.assertIs(type(answer), list)
-            self.assertEqual([type(number) for number in answer], [int])
+            self.assertEqual([type(number) for number in answer], [int] * many)
 
     def test_what_is_handed_in_stays(self):
-        for function, numbers, rules, word in self.calls():
-            rules_before, word_before = list(rules), list(word)
-            function(*numbers, rules, word)
-            self.assertEqual((rules, word), (rules_before, word_before))
+        for function, numbers, lists in self.calls():
+            before = tuple(list(handed) for handed in lists)
+            function(*numbers, *lists)
+            self.assertEqual(lists, before)
 
     def test_what_is_handed_in_is_not_changed_for_a_while_either(self):
-        for function, numbers, rules, word in self.calls():
-            answer = function(*numbers, rules, word)
-            self.assertEqual(function(*numbers, Unchanging(rules), Unchanging(word)), answer)
+        for function, numbers, lists in self.calls():
+            answer = function(*numbers, *lists)
+            self.assertEqual(function(*numbers, *[Unchanging(handed) for handed in lists]), answer)
 
     def test_nothing_is_kept(self):
         calls = self.calls()
-        once = [function(*numbers, rules, word) for function, numbers, rules, word in calls]
+        once = [function(*numbers, *lists) for function, numbers, lists in calls]
         calls.reverse()
-        again = [function(*numbers, rules, word) for function, numbers, rules, word in calls]
+        again = [function(*numbers, *lists) for function, numbers, lists in calls]
         again.reverse()
         self.assertEqual(once, again)
 
+    def test_a_second_call_answers_like_the_first(self):
+        for function, numbers, lists in self.calls():
+            self.assertEqual(function(*numbers, *lists), function(*numbers, *lists))
+
     def test_an_answer_is_the_callers_own(self):
-        for function, numbers, rules, word in self.calls():
-            answer = function(*numbers, rules, word)
+        for function, numbers, lists in self.calls():
+            answer = function(*numbers, *lists)
             kept = list(answer)
             answer.append(99)
-            self.assertEqual(function(*numbers, rules, word), kept)
+            self.assertEqual(function(*numbers, *lists), kept)
 
     def test_names_and_order_of_arguments(self):
         for name, wanted in (("run", ("n", "k", "good", "length", "rules", "word")),
-                             ("steps", ("n", "k", "length", "rules", "word"))):
+                             ("steps", ("n", "k", "length", "rules", "word")),
+                             ("table", ("n", "k", "length", "rules", "word")),
+                             ("states", ("n", "k", "good", "rules"))):
             code = getattr(toandfrodesk.machines, name).__code__
             self.assertEqual(code.co_varnames[:code.co_argcount], wanted)
 
@@ -189,6 +220,8 @@ class Interface(unittest.TestCase):
         rules = [right(1), right(0), right(0), right(0), right(0), right(0)]
         self.assertEqual(run(word=[0], rules=rules, length=1, good=1, k=1, n=2), [1])
         self.assertEqual(steps(word=[0], rules=rules, length=1, k=1, n=2), [3])
+        self.assertEqual(table(word=[0], rules=rules, length=1, k=1, n=2), [0, 1, 1, 0])
+        self.assertEqual(states(rules=rules, good=1, k=1, n=2), [1])
 
 
 class Unchanging(list):

@@ -6,6 +6,9 @@ LONGEST_WORD = 4096
 
 STOP_RULE = 255
 
+# Stands in a table in the place of a state.
+NEVER = 255
+
 OUT_OF_RANGE = -2
 NOT_AS_TOLD = -3
 NO_END = -5
@@ -50,6 +53,32 @@ def steps(n, k, length, rules, word):
     return [ending.step]
 
 
+def table(n, k, length, rules, word):
+    """0, then the word's table."""
+    if not sizes_fit(n, k) or not length_fits(length):
+        return [OUT_OF_RANGE]
+    if not rules_fit(n, k, rules) or not word_fits(k, word):
+        return [NOT_AS_TOLD]
+    known = empty_table(n, k, rules)
+    for letter in word:
+        known = longer_table(n, k, rules, known, letter)
+    return [0] + list(known)
+
+
+def states(n, k, good, rules):
+    """In how many kinds of words that are alike all words fall."""
+    if not sizes_fit(n, k):
+        return [OUT_OF_RANGE]
+    if not rules_fit(n, k, rules) or not good_fits(n, good):
+        return [NOT_AS_TOLD]
+    # Words of one table are alike: what is put behind them is reached, and met again, in the same states.
+    onward = reach_tables(n, k, rules)
+    taken = {}
+    for known in onward:
+        taken[known] = is_taken(n, k, good, rules, known)
+    return [count_kinds(taken, onward)]
+
+
 def walk(n, k, rules, word):
     """The ending of the run on the word."""
     row = [k] + word + [k + 1]
@@ -65,6 +94,82 @@ def walk(n, k, rules, word):
         if place == len(row):
             return Ending(LEAVES, state, done + 1)
     return Ending(GOES_ON, state, n * len(row))
+
+
+def empty_table(n, k, rules):
+    """The table of the word of no letter."""
+    # Ahead of the left end nothing stands: it comes to the left end in state 0, and never from anywhere again.
+    nothing = tuple([0] + [NEVER] * n)
+    return longer_table(n, k, rules, nothing, k)
+
+
+def longer_table(n, k, rules, known, sign):
+    """The table of the row whose table is known with the sign put behind it."""
+    crossings = [crossing_state(n, k, rules, known, sign, state) for state in range(n)]
+    begin = known[0]
+    return tuple([NEVER if begin == NEVER else crossings[begin]] + crossings)
+
+
+def crossing_state(n, k, rules, known, sign, state):
+    """The state in which it first goes right from the sign, if it begins there, behind the row whose table is known."""
+    # Who is at the sign more than n times is there in one state twice, and so for ever.
+    for visit in range(n):
+        rule = rules[state * (k + 2) + sign]
+        if rule == STOP_RULE:
+            return NEVER
+        state = rule // 2
+        if goes_right(rule):
+            return state
+        state = known[1 + state]
+        if state == NEVER:
+            return NEVER
+    return NEVER
+
+
+def is_taken(n, k, good, rules, known):
+    """Whether a word of this table is taken."""
+    state = longer_table(n, k, rules, known, k + 1)[0]
+    return state != NEVER and (good >> state) & 1 == 1
+
+
+def reach_tables(n, k, rules):
+    """Every word's table, and for each of them the tables with each letter put behind."""
+    onward = {}
+    waiting = [empty_table(n, k, rules)]
+    while len(waiting) > 0:
+        known = waiting.pop()
+        if known not in onward:
+            onward[known] = [longer_table(n, k, rules, known, letter) for letter in range(k)]
+            waiting.extend(onward[known])
+    return onward
+
+
+def count_kinds(marks, onward):
+    """In how many kinds the tables fall that differ by their marks or by the marks of what follows, however far on."""
+    kinds = number_kinds(marks)
+    while True:
+        finer = number_kinds(finer_marks(kinds, onward))
+        # Each round only parts kinds further: if there are no more of them, they stay.
+        if max(finer.values()) == max(kinds.values()):
+            return max(kinds.values()) + 1
+        kinds = finer
+
+
+def finer_marks(kinds, onward):
+    """For each table its own kind and the kinds of what follows."""
+    marks = {}
+    for known in onward:
+        marks[known] = tuple([kinds[known]] + [kinds[longer] for longer in onward[known]])
+    return marks
+
+
+def number_kinds(marks):
+    """For each table a number, the same for equal marks, from 0 on without a gap."""
+    numbers = {}
+    kinds = {}
+    for known in marks:
+        kinds[known] = numbers.setdefault(marks[known], len(numbers))
+    return kinds
 
 
 def goes_right(rule):

@@ -1,4 +1,4 @@
-"""Machines for the tests, and second ways to find how a run ends, a word's table and the kinds of words."""
+"""Machines for the tests, and second ways to find what the calls answer: by whole words, run step by step."""
 
 from itertools import product
 
@@ -12,6 +12,54 @@ def right(state):
 
 def left(state):
     return 2 * state
+
+
+# Letter 1 turns the state over.
+ODD = (right(0), right(1), right(0), right(0),
+       right(1), right(0), right(1), right(1))
+
+# The state is the length modulo 3.
+LENGTHS_BY_3 = (right(1), right(0), right(0),
+                right(2), STOP, right(1),
+                right(0), STOP, right(2))
+
+# To the right end, two letters back, and right again over letters 1 alone.
+TWO_ONES_AT_THE_END = (right(0), right(0), right(0), left(1),
+                       left(2), left(2), STOP, STOP,
+                       STOP, right(2), STOP, right(2))
+
+# To the right end, two letters back, and right again if that's a letter 1.
+ONE_BUT_LAST = (right(0), right(0), right(0), left(1),
+                left(2), left(2), STOP, STOP,
+                STOP, right(3), STOP, STOP,
+                right(3), right(3), STOP, right(3))
+
+# States 0 and 1 count the letters 1; if they are odd, state 2 looks back at the last letter, which must be a 1.
+ODD_AND_ONE_AT_THE_END = (right(0), right(1), right(0), STOP,
+                          right(1), right(0), STOP, left(2),
+                          STOP, right(2), STOP, right(2))
+
+# A letter 1 that is not the first letter keeps it for ever.
+FOR_EVER_BY_A_LATER_ONE = (right(1), right(1), right(0), right(0),
+                           right(1), left(0), right(1), right(1))
+
+# Of all that were tried, machines of 3 states and 4 letters with the most kinds of words: good and rules.
+MANY_KINDS = (
+    (7, [5, 1, 5, 1, 3, 0, 0, 2, 3, 4, 5, 3, 1, 3, 2, 5, 1, 4]),
+    (5, [0, 4, 2, 5, 1, 3, 1, 3, 3, 0, 3, 4, 5, 1, 5, 3, 3, 1]),
+    (7, [5, 5, 1, 1, 1, 2, 2, 1, 0, 4, 5, 5, 3, 2, 5, 3, STOP, 2]),
+)
+
+
+def only_word(k, word):
+    """It leaves in state len(word) on that word, and in a lower one or not at all on any other."""
+    rules = []
+    for state in range(len(word) + 1):
+        onward = [STOP] * k
+        if state < len(word):
+            onward[word[state]] = right(state + 1)
+        rules += onward + [right(state), right(state)]
+    return rules
 
 
 def below_zero(number):
@@ -95,20 +143,24 @@ def takes(k, good, rules, word):
     return expected_run(k, good, rules, word) == [1]
 
 
-def expected_states(n, k, good, rules):
-    """A word for each table, each letter put behind them, and pairs of tables told apart until no more can be."""
-    words = {tuple(expected_table(n, k, rules, [])): []}
-    onward = {}
+def words_of_all_tables(k, machines):
+    """A word for each table that words have, or for each pair of them if there are two machines (n, rules)."""
+    words = {}
     waiting = [[]]
     while waiting:
         word = waiting.pop()
-        longer = [word + [letter] for letter in range(k)]
-        found = [tuple(expected_table(n, k, rules, one)) for one in longer]
-        onward[tuple(expected_table(n, k, rules, word))] = found
-        for table, one in zip(found, longer):
-            if table not in words:
-                words[table] = one
-                waiting.append(one)
+        tables = tuple(tuple(expected_table(n, k, rules, word)) for n, rules in machines)
+        if tables not in words:
+            words[tables] = word
+            waiting += [word + [letter] for letter in range(k)]
+    return words
+
+
+def expected_states(n, k, good, rules):
+    """A word for each table, each letter put behind them, and pairs of tables told apart until no more can be."""
+    words = words_of_all_tables(k, [(n, rules)])
+    onward = {table: [(tuple(expected_table(n, k, rules, word + [letter])),) for letter in range(k)]
+              for table, word in words.items()}
     taken = {table: takes(k, good, rules, word) for table, word in words.items()}
     apart = {(one, two) for one in words for two in words if taken[one] != taken[two]}
     more = True
@@ -123,6 +175,29 @@ def expected_states(n, k, good, rules):
     return [len(kinds)]
 
 
+def words_in_order(k, longest):
+    """All words up to a length: the shorter first, of one length by the first letter that differs."""
+    return [list(word) for length in range(longest + 1) for word in product(range(k), repeat=length)]
+
+
+def expected_first(n, k, good, rules):
+    """What first answers where most is no less: word by word, in their order."""
+    if not any(takes(k, good, rules, word) for word in words_of_all_tables(k, [(n, rules)]).values()):
+        return [-5]
+    length = 0
+    while True:
+        for word in product(range(k), repeat=length):
+            if takes(k, good, rules, list(word)):
+                return [length] + list(word)
+        length += 1
+
+
+def expected_same(n, k, good, o, fair, rules, others):
+    """One word for each pair of tables that a word has in both machines: is it taken in both or in neither?"""
+    words = words_of_all_tables(k, [(n, rules), (o, others)]).values()
+    return [int(all(takes(k, good, rules, word) == takes(k, fair, others, word) for word in words))]
+
+
 def kinds_of_short_words(k, good, rules, longest):
     """How many kinds the words up to a length fall in, when words up to that length are put behind them.
 
@@ -130,7 +205,7 @@ def kinds_of_short_words(k, good, rules, longest):
     longest + 1: a shortest word of a kind goes through a new one at each letter, and a shortest word that tells two
     kinds apart parts one kind more at each letter.
     """
-    words = [list(word) for length in range(longest + 1) for word in product(range(k), repeat=length)]
+    words = words_in_order(k, longest)
     taken = {}
     rows = set()
     for word in words:

@@ -3,8 +3,8 @@
 import unittest
 
 import toandfrodesk.machines
-from tests.helper import STOP, Draws, below_zero, left, right, to_and_fro
-from toandfrodesk.machines import run, states, steps, table
+from tests.helper import STOP, Draws, below_zero, left, only_word, right, to_and_fro
+from toandfrodesk.machines import first, run, same, states, steps, table
 
 NOT_N = (0, 6, 7, 255, 2147483647, below_zero(-1), below_zero(-5), 2147483648)
 NOT_K = (0, 5, 6, 255, 2147483647, below_zero(-1), below_zero(-4), 2147483648)
@@ -21,13 +21,25 @@ class Refusals(unittest.TestCase):
     def machine_refused(self, number, n, k, rules, word, good=0):
         """Each call, with a word that is as long as told."""
         self.refused(number, n, k, len(word), rules, word, good)
+        self.good_refused(number, n, k, rules, good)
+
+    def good_refused(self, number, n, k, rules, good):
+        """Each call that is given good states and no word; of two machines either is it."""
+        plain = [1] * (k + 2) if k in range(1, 5) else []
         self.assertEqual(states(n, k, good, rules), [number])
+        self.assertEqual(first(n, k, good, 0, rules), [number])
+        self.assertEqual(same(n, k, good, 1, 0, rules, plain), [number])
+        self.assertEqual(same(1, k, 0, n, good, plain, rules), [number])
 
     def not_refused(self, n, k, rules, word, good=0):
+        plain = [1] * (k + 2)
         self.assertGreaterEqual(run(n, k, good, len(word), rules, word)[0], 0)
         self.assertNotIn(steps(n, k, len(word), rules, word)[0], (-2, -3))
         self.assertEqual(table(n, k, len(word), rules, word)[0], 0)
         self.assertGreaterEqual(states(n, k, good, rules)[0], 1)
+        self.assertNotIn(first(n, k, good, 0, rules)[0], (-2, -3))
+        self.assertIn(same(n, k, good, 1, 0, rules, plain), ([0], [1]))
+        self.assertIn(same(1, k, 0, n, good, plain, rules), ([0], [1]))
 
 
 class OutOfRange(Refusals):
@@ -123,14 +135,14 @@ class NotAsTold(Refusals):
             rules = to_and_fro(n, 1)
             for good in (2 ** n, 2 ** n + 1, 2 ** 31 - 1, 2 ** 31, 2 ** 32 - 2 ** n, 2 ** 32 - 1):
                 self.assertEqual(run(n, 1, good, 1, rules, [0]), [-3])
-                self.assertEqual(states(n, 1, good, rules), [-3])
+                self.good_refused(-3, n, 1, rules, good)
             for good in (0, 2 ** n - 1):
                 self.not_refused(n, 1, rules, [0], good)
 
     def test_good_is_asked_even_where_the_run_does_not_leave(self):
         for rules in ([1, STOP, 1], [1, 1, 0]):
             self.assertEqual(run(1, 1, 2, 0, rules, []), [-3])
-            self.assertEqual(states(1, 1, 2, rules), [-3])
+            self.good_refused(-3, 1, 1, rules, 2)
 
 
 class BothKinds(Refusals):
@@ -160,21 +172,36 @@ class Interface(unittest.TestCase):
             made.append((steps, (n, k, len(word)), (rules, word)))
             made.append((table, (n, k, len(word)), (rules, word)))
             made.append((states, (n, k, good), (rules,)))
+            made.append((first, (n, k, good, draws.below(3)), (rules,)))
+            o = 1 + draws.below(5)
+            made.append((same, (n, k, good, o, draws.below(2 ** o)), (rules, draws.rules(o, k))))
+            made.append((same, (n, k, good, n, good), (rules, list(rules))))
         made.append((run, (0, 1, 0, 1), ([], [0])))
         made.append((steps, (1, 1, below_zero(-1)), ([1, 1, 1], [])))
         made.append((table, (1, 5, 1), ([], [0])))
         made.append((states, (6, 1, 0), ([],)))
+        made.append((first, (1, 1, 0, 65537), ([1, 1, 1],)))
+        made.append((same, (1, 1, 0, 6, 0), ([1, 1, 1], [])))
         made.append((run, (1, 1, 2, 1), ([1, 1, 1], [0])))
         made.append((steps, (1, 1, 1), ([1, 0, 1], [0])))
         made.append((table, (1, 1, 1), ([1, 1, 1], [1])))
         made.append((states, (1, 1, 2), ([1, 1, 1],)))
+        made.append((first, (1, 1, 2, 0), ([1, 1, 1],)))
+        made.append((same, (1, 1, 0, 1, 2), ([1, 1, 1], [1, 1, 1])))
+        made.append((first, (3, 3, 4, 1), (only_word(3, [2, 1]),)))
+        made.append((first, (3, 3, 4, 2), (only_word(3, [2, 1]),)))
+        made.append((first, (3, 3, 0, 2), (only_word(3, [2, 1]),)))
         made.append((steps, (1, 1, 1), ([1, 1, 0], [0])))
         return made
 
     def test_answers_are_lists_of_whole_numbers(self):
         for function, numbers, lists in self.calls():
             answer = function(*numbers, *lists)
-            many = numbers[0] + 2 if function is table and answer[0] == 0 else 1
+            many = 1
+            if function is table and answer[0] == 0:
+                many = numbers[0] + 2
+            if function is first and answer[0] >= 0:
+                many = answer[0] + 1
             self.assertIs(type(answer), list)
             self.assertEqual([type(number) for number in answer], [int] * many)
 
@@ -212,7 +239,9 @@ class Interface(unittest.TestCase):
         for name, wanted in (("run", ("n", "k", "good", "length", "rules", "word")),
                              ("steps", ("n", "k", "length", "rules", "word")),
                              ("table", ("n", "k", "length", "rules", "word")),
-                             ("states", ("n", "k", "good", "rules"))):
+                             ("states", ("n", "k", "good", "rules")),
+                             ("first", ("n", "k", "good", "most", "rules")),
+                             ("same", ("n", "k", "good", "o", "fair", "rules", "others"))):
             code = getattr(toandfrodesk.machines, name).__code__
             self.assertEqual(code.co_varnames[:code.co_argcount], wanted)
 
@@ -222,6 +251,8 @@ class Interface(unittest.TestCase):
         self.assertEqual(steps(word=[0], rules=rules, length=1, k=1, n=2), [3])
         self.assertEqual(table(word=[0], rules=rules, length=1, k=1, n=2), [0, 1, 1, 0])
         self.assertEqual(states(rules=rules, good=1, k=1, n=2), [1])
+        self.assertEqual(first(rules=rules, most=0, good=1, k=1, n=2), [0])
+        self.assertEqual(same(others=[1, 1, 1], rules=rules, fair=1, o=1, good=1, k=1, n=2), [1])
 
 
 class Unchanging(list):

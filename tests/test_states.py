@@ -4,15 +4,10 @@ import unittest
 from itertools import product
 from time import process_time
 
-from tests.helper import STOP, Draws, expected_states, kinds_of_short_words, left, right, takes, to_and_fro
+from tests.helper import (FOR_EVER_BY_A_LATER_ONE, LENGTHS_BY_3, MANY_KINDS, ODD, ODD_AND_ONE_AT_THE_END, ONE_BUT_LAST,
+                          STOP, TWO_ONES_AT_THE_END, Draws, expected_states, kinds_of_short_words, left, right, takes,
+                          to_and_fro)
 from toandfrodesk.machines import states
-
-# Of all that were tried, machines of 3 states and 4 letters with the most kinds of words.
-MANY_KINDS = (
-    (7, [5, 1, 5, 1, 3, 0, 0, 2, 3, 4, 5, 3, 1, 3, 2, 5, 1, 4]),
-    (5, [0, 4, 2, 5, 1, 3, 1, 3, 3, 0, 3, 4, 5, 1, 5, 3, 3, 1]),
-    (7, [5, 5, 1, 1, 1, 2, 2, 1, 0, 4, 5, 5, 3, 2, 5, 3, STOP, 2]),
-)
 
 
 class OneKind(unittest.TestCase):
@@ -39,22 +34,15 @@ class OneKind(unittest.TestCase):
 
 
 class SeveralKinds(unittest.TestCase):
-    # Letter 1 turns the state over.
-    ODD = [right(0), right(1), right(0), right(0),
-           right(1), right(0), right(1), right(1)]
-
     def test_letters_1_odd_or_even(self):
-        self.assertEqual(states(2, 2, 2, self.ODD), [2])
-        self.assertEqual(states(2, 2, 1, self.ODD), [2])
-        self.assertEqual(states(2, 2, 3, self.ODD), [1])
+        self.assertEqual(states(2, 2, 2, list(ODD)), [2])
+        self.assertEqual(states(2, 2, 1, list(ODD)), [2])
+        self.assertEqual(states(2, 2, 3, list(ODD)), [1])
 
     def test_lengths_modulo_3(self):
-        rules = [right(1), right(0), right(0),
-                 right(2), STOP, right(1),
-                 right(0), STOP, right(2)]
         for good in range(1, 7):
-            self.assertEqual(states(3, 1, good, rules), [3])
-        self.assertEqual(states(3, 1, 7, rules), [1])
+            self.assertEqual(states(3, 1, good, list(LENGTHS_BY_3)), [3])
+        self.assertEqual(states(3, 1, 7, list(LENGTHS_BY_3)), [1])
 
     def test_the_word_of_no_letter_alone(self):
         # The other kind: every word that has a letter.
@@ -102,34 +90,20 @@ class SeveralKinds(unittest.TestCase):
 
 class GoingLeft(unittest.TestCase):
     def test_two_letters_1_at_the_end(self):
-        # To the right end, two letters back, and right again over letters 1 alone. Kinds: 1 and 1 at the end; 1 at the
-        # end, not behind a 1; no 1 at the end.
-        rules = [right(0), right(0), right(0), left(1),
-                 left(2), left(2), STOP, STOP,
-                 STOP, right(2), STOP, right(2)]
-        self.assertEqual(states(3, 2, 4, rules), [3])
+        # Kinds: 1 and 1 at the end; 1 at the end, not behind a 1; no 1 at the end.
+        self.assertEqual(states(3, 2, 4, list(TWO_ONES_AT_THE_END)), [3])
 
     def test_the_last_letter_but_one(self):
         # Kinds: by the last two letters, where none counts as 0.
-        rules = [right(0), right(0), right(0), left(1),
-                 left(2), left(2), STOP, STOP,
-                 STOP, right(3), STOP, STOP,
-                 right(3), right(3), STOP, right(3)]
-        self.assertEqual(states(4, 2, 8, rules), [4])
+        self.assertEqual(states(4, 2, 8, list(ONE_BUT_LAST)), [4])
 
     def test_odd_and_1_at_the_end(self):
-        # States 0 and 1 count the letters 1; if they are odd, state 2 looks back at the last letter.
         # Kinds: even; odd with 1 at the end; odd with 0 at the end.
-        rules = [right(0), right(1), right(0), STOP,
-                 right(1), right(0), STOP, left(2),
-                 STOP, right(2), STOP, right(2)]
-        self.assertEqual(states(3, 2, 4, rules), [3])
+        self.assertEqual(states(3, 2, 4, list(ODD_AND_ONE_AT_THE_END)), [3])
 
     def test_going_on_for_ever_on_some_words(self):
-        # A letter 1 that is not the first letter keeps it for ever. Kinds: no letter; letters 0 behind the first one;
-        # with such a 1.
-        rules = [right(1), right(1), right(0), right(0),
-                 right(1), left(0), right(1), right(1)]
+        # Kinds: no letter; letters 0 behind the first one; with a 1 behind the first one.
+        rules = list(FOR_EVER_BY_A_LATER_ONE)
         self.assertEqual(states(2, 2, 2, rules), [3])
         self.assertEqual(states(2, 2, 3, rules), [3])
         # Only the word of no letter is taken.

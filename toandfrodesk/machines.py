@@ -3,6 +3,7 @@
 MOST_STATES = 5
 MOST_LETTERS = 4
 LONGEST_WORD = 4096
+LONGEST_FIRST = 65536
 
 STOP_RULE = 255
 
@@ -11,7 +12,9 @@ NEVER = 255
 
 OUT_OF_RANGE = -2
 NOT_AS_TOLD = -3
+TOO_LONG = -4
 NO_END = -5
+NONE_TAKEN = -5
 
 LEAVES = "leaves"
 STOPS = "stops"
@@ -71,12 +74,32 @@ def states(n, k, good, rules):
         return [OUT_OF_RANGE]
     if not rules_fit(n, k, rules) or not good_fits(n, good):
         return [NOT_AS_TOLD]
-    # Words of one table are alike: what is put behind them is reached, and met again, in the same states.
-    onward = reach_tables(n, k, rules)
-    taken = {}
-    for known in onward:
-        taken[known] = is_taken(n, k, good, rules, known)
-    return [count_kinds(taken, onward)]
+    return [len(kinds_of_words(n, k, good, rules))]
+
+
+def first(n, k, good, most, rules):
+    """The length of the first word that is taken, then the word; -5 if none is taken, -4 if it's longer than most."""
+    if not sizes_fit(n, k) or not in_range(most, 0, LONGEST_FIRST):
+        return [OUT_OF_RANGE]
+    if not rules_fit(n, k, rules) or not good_fits(n, good):
+        return [NOT_AS_TOLD]
+    word = first_taken(n, k, good, rules)
+    if word is None:
+        return [NONE_TAKEN]
+    if len(word) > most:
+        return [TOO_LONG]
+    return [len(word)] + word
+
+
+def same(n, k, good, o, fair, rules, others):
+    """1 if the machine takes the same words as the other one, else 0."""
+    if not sizes_fit(n, k) or not sizes_fit(o, k):
+        return [OUT_OF_RANGE]
+    if not rules_fit(n, k, rules) or not good_fits(n, good):
+        return [NOT_AS_TOLD]
+    if not rules_fit(o, k, others) or not good_fits(o, fair):
+        return [NOT_AS_TOLD]
+    return [1 if kinds_of_words(n, k, good, rules) == kinds_of_words(o, k, fair, others) else 0]
 
 
 def walk(n, k, rules, word):
@@ -133,25 +156,61 @@ def is_taken(n, k, good, rules, known):
 
 
 def reach_tables(n, k, rules):
-    """Every word's table, and for each of them the tables with each letter put behind."""
+    """Every word's table, and for each of them the tables with each letter put behind.
+
+    They come in the order of their first words: the shorter first, of one length by the first letter that differs.
+    """
     onward = {}
     waiting = [empty_table(n, k, rules)]
     while len(waiting) > 0:
-        known = waiting.pop()
-        if known not in onward:
-            onward[known] = [longer_table(n, k, rules, known, letter) for letter in range(k)]
-            waiting.extend(onward[known])
+        longer = []
+        for known in waiting:
+            if known not in onward:
+                onward[known] = [longer_table(n, k, rules, known, letter) for letter in range(k)]
+                longer.extend(onward[known])
+        waiting = longer
     return onward
 
 
-def count_kinds(marks, onward):
-    """In how many kinds the tables fall that differ by their marks or by the marks of what follows, however far on."""
+def first_taken(n, k, good, rules):
+    """The shortest word that is taken, of those the first by its first letter that differs; None if none is taken."""
+    onward = reach_tables(n, k, rules)
+    words = {empty_table(n, k, rules): []}
+    for known in onward:
+        if is_taken(n, k, good, rules, known):
+            return words[known]
+        for letter in range(k):
+            # The tables come in the order of their first words, so the word that is found first is the first one.
+            words.setdefault(onward[known][letter], words[known] + [letter])
+    return None
+
+
+def kinds_of_words(n, k, good, rules):
+    """For each kind of words that are alike whether they are taken, then the kinds with each letter put behind.
+
+    The kinds are numbered in the order of their first words, whatever the machine: that order is the words' own, so
+    machines that take the same words have equal answers.
+    """
+    # Words of one table are alike: what is put behind them is reached, and met again, in the same states.
+    onward = reach_tables(n, k, rules)
+    taken = {}
+    for known in onward:
+        taken[known] = is_taken(n, k, good, rules, known)
+    kinds = part_kinds(taken, onward)
+    rows = {}
+    for known in onward:
+        rows[kinds[known]] = tuple([taken[known]] + [kinds[longer] for longer in onward[known]])
+    return list(rows.values())
+
+
+def part_kinds(marks, onward):
+    """For each table its kind; kinds are parted if their marks differ, or the marks of what follows, however far on."""
     kinds = number_kinds(marks)
     while True:
         finer = number_kinds(finer_marks(kinds, onward))
         # Each round only parts kinds further: if there are no more of them, they stay.
         if max(finer.values()) == max(kinds.values()):
-            return max(kinds.values()) + 1
+            return kinds
         kinds = finer
 
 
@@ -164,7 +223,7 @@ def finer_marks(kinds, onward):
 
 
 def number_kinds(marks):
-    """For each table a number, the same for equal marks, from 0 on without a gap."""
+    """For each table a number, the same for equal marks, from 0 on in the order in which the marks come."""
     numbers = {}
     kinds = {}
     for known in marks:

@@ -62,6 +62,14 @@ def only_word(k, word):
     return rules
 
 
+def for_ever_on_only_word(k, word):
+    """It leaves or stops on every word but that one."""
+    rules = only_word(k, word)
+    # From the right end back to the last letter, or to the left end, which brings it to the right end again.
+    rules[-1] = left(max(0, len(word) - 1))
+    return rules
+
+
 def below_zero(number):
     """A number as an int is handed in."""
     return number % 2 ** 32
@@ -118,49 +126,66 @@ def expected_steps(k, rules, word):
     return [-5] if end[0] == "goes on" else [end[2]]
 
 
-def cross(k, rules, word, place, state):
-    """The state in which it first goes right from the last place, begun at a place (the left end is 0), or NEVER."""
+def beyond(k, rules, word, place, state):
+    """The state in which it first goes right from the last place, begun at a place (the left end is 0).
+
+    Else "stops" or "goes on".
+    """
     row = [k] + word
     been = set()
     while (place, state) not in been:
         been.add((place, state))
         rule = rules[state * (k + 2):(state + 1) * (k + 2)][row[place]]
         if rule == STOP:
-            return NEVER
+            return "stops"
         state, rightward = divmod(rule, 2)
         if rightward and place == len(word):
             return state
         place += 1 if rightward else -1
-    return NEVER
+    return "goes on"
+
+
+def all_beyond(n, k, rules, word):
+    """Step by step along the whole row, for each beginning that a table has anew."""
+    return tuple([beyond(k, rules, word, 0, 0)] + [beyond(k, rules, word, len(word), state) for state in range(n)])
 
 
 def expected_table(n, k, rules, word):
-    """The table step by step along the whole row, for each beginning anew."""
-    return [0, cross(k, rules, word, 0, 0)] + [cross(k, rules, word, len(word), state) for state in range(n)]
+    return [0] + [NEVER if state in ("stops", "goes on") else state for state in all_beyond(n, k, rules, word)]
 
 
 def takes(k, good, rules, word):
     return expected_run(k, good, rules, word) == [1]
 
 
-def words_of_all_tables(k, machines):
-    """A word for each table that words have, or for each pair of them if there are two machines (n, rules)."""
+def words_by(k, mark):
+    """A word for each mark that words have, if words of one mark have one mark with a letter behind them too."""
     words = {}
     waiting = [[]]
     while waiting:
         word = waiting.pop()
-        tables = tuple(tuple(expected_table(n, k, rules, word)) for n, rules in machines)
-        if tables not in words:
-            words[tables] = word
+        its_own = mark(word)
+        if its_own not in words:
+            words[its_own] = word
             waiting += [word + [letter] for letter in range(k)]
     return words
 
 
+def words_of_all_tables(k, machines):
+    """A word for each table that words have, or for each pair of them if there are two machines (n, rules)."""
+    return words_by(k, lambda word: tuple(tuple(expected_table(n, k, rules, word)) for n, rules in machines))
+
+
+def words_and_longer_tables(n, k, rules):
+    """A word for each table that words have, and each table's tables with each letter put behind."""
+    words = words_by(k, lambda word: tuple(expected_table(n, k, rules, word)))
+    return words, {table: [tuple(expected_table(n, k, rules, word + [letter])) for letter in range(k)]
+                   for table, word in words.items()}
+
+
 def expected_states(n, k, good, rules):
     """A word for each table, each letter put behind them, and pairs of tables told apart until no more can be."""
-    words = words_of_all_tables(k, [(n, rules)])
-    onward = {table: [(tuple(expected_table(n, k, rules, word + [letter])),) for letter in range(k)]
-              for table, word in words.items()}
+    words, onward = words_and_longer_tables(n, k, rules)
     taken = {table: takes(k, good, rules, word) for table, word in words.items()}
     apart = {(one, two) for one in words for two in words if taken[one] != taken[two]}
     more = True
@@ -196,6 +221,25 @@ def expected_same(n, k, good, o, fair, rules, others):
     """One word for each pair of tables that a word has in both machines: is it taken in both or in neither?"""
     words = words_of_all_tables(k, [(n, rules), (o, others)]).values()
     return [int(all(takes(k, good, rules, word) == takes(k, fair, others, word) for word in words))]
+
+
+def expected_halts(n, k, rules):
+    """One word for all that are gone through alike, whatever stands behind: does it go on for ever?"""
+    words = words_by(k, lambda word: all_beyond(n, k, rules, word)).values()
+    return [int(all(follow(k, rules, word)[0] != "goes on" for word in words))]
+
+
+def expected_count(n, k, good, length, p, rules):
+    """How many words of a length have each table, letter by letter; modulo p only at last."""
+    words, onward = words_and_longer_tables(n, k, rules)
+    many = {tuple(expected_table(n, k, rules, [])): 1}
+    for letters in range(length):
+        longer = {}
+        for table in many:
+            for other in onward[table]:
+                longer[other] = longer.get(other, 0) + many[table]
+        many = longer
+    return [sum(many[table] for table in many if takes(k, good, rules, words[table])) % p]
 
 
 def kinds_of_short_words(k, good, rules, longest):

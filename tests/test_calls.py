@@ -1,10 +1,13 @@
 """What holds for every call: the refusals and their order, and the interface."""
 
+import sys
 import unittest
+from contextlib import redirect_stderr, redirect_stdout
+from io import StringIO
 
 import toandfrodesk.machines
 from tests.helper import STOP, Draws, below_zero, left, only_word, right, to_and_fro
-from toandfrodesk.machines import first, run, same, states, steps, table
+from toandfrodesk.machines import count, first, halts, run, same, states, steps, table
 
 NOT_N = (0, 6, 7, 255, 2147483647, below_zero(-1), below_zero(-5), 2147483648)
 NOT_K = (0, 5, 6, 255, 2147483647, below_zero(-1), below_zero(-4), 2147483648)
@@ -22,6 +25,7 @@ class Refusals(unittest.TestCase):
         """Each call, with a word that is as long as told."""
         self.refused(number, n, k, len(word), rules, word, good)
         self.good_refused(number, n, k, rules, good)
+        self.assertEqual(halts(n, k, rules), [number])
 
     def good_refused(self, number, n, k, rules, good):
         """Each call that is given good states and no word; of two machines either is it."""
@@ -30,6 +34,7 @@ class Refusals(unittest.TestCase):
         self.assertEqual(first(n, k, good, 0, rules), [number])
         self.assertEqual(same(n, k, good, 1, 0, rules, plain), [number])
         self.assertEqual(same(1, k, 0, n, good, plain, rules), [number])
+        self.assertEqual(count(n, k, good, 0, 2, rules), [number])
 
     def not_refused(self, n, k, rules, word, good=0):
         plain = [1] * (k + 2)
@@ -40,6 +45,8 @@ class Refusals(unittest.TestCase):
         self.assertNotIn(first(n, k, good, 0, rules)[0], (-2, -3))
         self.assertIn(same(n, k, good, 1, 0, rules, plain), ([0], [1]))
         self.assertIn(same(1, k, 0, n, good, plain, rules), ([0], [1]))
+        self.assertIn(halts(n, k, rules), ([0], [1]))
+        self.assertIn(count(n, k, good, 0, 2, rules), ([0], [1]))
 
 
 class OutOfRange(Refusals):
@@ -176,22 +183,33 @@ class Interface(unittest.TestCase):
             o = 1 + draws.below(5)
             made.append((same, (n, k, good, o, draws.below(2 ** o)), (rules, draws.rules(o, k))))
             made.append((same, (n, k, good, n, good), (rules, list(rules))))
+            made.append((halts, (n, k), (rules,)))
+            made.append((count, (n, k, good, draws.below(61), 2 + draws.below(2147483646)), (rules,)))
         made.append((run, (0, 1, 0, 1), ([], [0])))
         made.append((steps, (1, 1, below_zero(-1)), ([1, 1, 1], [])))
         made.append((table, (1, 5, 1), ([], [0])))
         made.append((states, (6, 1, 0), ([],)))
         made.append((first, (1, 1, 0, 65537), ([1, 1, 1],)))
         made.append((same, (1, 1, 0, 6, 0), ([1, 1, 1], [])))
+        made.append((halts, (1, 0), ([],)))
+        made.append((count, (1, 1, 0, 1001, 2), ([1, 1, 1],)))
+        made.append((count, (1, 1, 0, 0, 1), ([1, 1, 1],)))
         made.append((run, (1, 1, 2, 1), ([1, 1, 1], [0])))
         made.append((steps, (1, 1, 1), ([1, 0, 1], [0])))
         made.append((table, (1, 1, 1), ([1, 1, 1], [1])))
         made.append((states, (1, 1, 2), ([1, 1, 1],)))
         made.append((first, (1, 1, 2, 0), ([1, 1, 1],)))
         made.append((same, (1, 1, 0, 1, 2), ([1, 1, 1], [1, 1, 1])))
+        made.append((halts, (1, 1), ([1, 0, 1],)))
+        made.append((count, (1, 1, 2, 0, 2), ([1, 1, 1],)))
         made.append((first, (3, 3, 4, 1), (only_word(3, [2, 1]),)))
         made.append((first, (3, 3, 4, 2), (only_word(3, [2, 1]),)))
         made.append((first, (3, 3, 0, 2), (only_word(3, [2, 1]),)))
         made.append((steps, (1, 1, 1), ([1, 1, 0], [0])))
+        made.append((halts, (1, 1), ([1, 1, 0],)))
+        made.append((halts, (1, 1), ([1, 1, 1],)))
+        made.append((count, (1, 4, 1, 1000, 2147483647), ([1] * 6,)))
+        made.append((count, (1, 4, 1, 0, 2), ([1] * 6,)))
         return made
 
     def test_answers_are_lists_of_whole_numbers(self):
@@ -241,7 +259,9 @@ class Interface(unittest.TestCase):
                              ("table", ("n", "k", "length", "rules", "word")),
                              ("states", ("n", "k", "good", "rules")),
                              ("first", ("n", "k", "good", "most", "rules")),
-                             ("same", ("n", "k", "good", "o", "fair", "rules", "others"))):
+                             ("same", ("n", "k", "good", "o", "fair", "rules", "others")),
+                             ("halts", ("n", "k", "rules")),
+                             ("count", ("n", "k", "good", "length", "p", "rules"))):
             code = getattr(toandfrodesk.machines, name).__code__
             self.assertEqual(code.co_varnames[:code.co_argcount], wanted)
 
@@ -253,6 +273,46 @@ class Interface(unittest.TestCase):
         self.assertEqual(states(rules=rules, good=1, k=1, n=2), [1])
         self.assertEqual(first(rules=rules, most=0, good=1, k=1, n=2), [0])
         self.assertEqual(same(others=[1, 1, 1], rules=rules, fair=1, o=1, good=1, k=1, n=2), [1])
+        self.assertEqual(halts(rules=rules, k=1, n=2), [1])
+        self.assertEqual(count(rules=rules, p=2, length=1, good=1, k=1, n=2), [1])
+
+    def test_nothing_is_printed(self):
+        printed = StringIO()
+        with redirect_stdout(printed), redirect_stderr(printed):
+            for function, numbers, lists in self.calls():
+                function(*numbers, *lists)
+        self.assertEqual(printed.getvalue(), "")
+
+    def test_what_is_long_is_gone_through_by_loops(self):
+        rules, word = to_and_fro(5, 4), [3] * 4096
+        for function, numbers, lists in ((run, (5, 4, 16, 4096), (rules, word)),
+                                         (steps, (5, 4, 4096), (rules, word)),
+                                         (table, (5, 4, 4096), (rules, word)),
+                                         (states, (5, 4, 16), (rules,)),
+                                         (first, (5, 4, 16, 65536), (only_word(4, [3, 3, 3, 3]),)),
+                                         (same, (5, 4, 16, 5, 16), (rules, rules)),
+                                         (halts, (5, 4), (rules,)),
+                                         (count, (5, 4, 16, 1000, 2147483647), (rules,))):
+            self.assertLess(deepest(function, *numbers, *lists), 20)
+
+
+def deepest(function, *given):
+    """How many calls within one another the function makes at most, itself among them."""
+    depths = [0]
+
+    def seen(frame, event, what):
+        if event == "call":
+            depths.append(depths[-1] + 1)
+        if event == "return":
+            depths.append(depths[-1] - 1)
+
+    before = sys.getprofile()
+    sys.setprofile(seen)
+    try:
+        function(*given)
+    finally:
+        sys.setprofile(before)
+    return max(depths)
 
 
 class Unchanging(list):

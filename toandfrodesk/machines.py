@@ -4,6 +4,9 @@ MOST_STATES = 5
 MOST_LETTERS = 4
 LONGEST_WORD = 4096
 LONGEST_FIRST = 65536
+LONGEST_COUNTED = 1000
+LEAST_MODULUS = 2
+MOST_MODULUS = 2147483647
 
 STOP_RULE = 255
 
@@ -102,6 +105,26 @@ def same(n, k, good, o, fair, rules, others):
     return [1 if kinds_of_words(n, k, good, rules) == kinds_of_words(o, k, fair, others) else 0]
 
 
+def halts(n, k, rules):
+    """1 if it leaves or stops on every word, else 0."""
+    if not sizes_fit(n, k):
+        return [OUT_OF_RANGE]
+    if not rules_fit(n, k, rules):
+        return [NOT_AS_TOLD]
+    return [1 if always_leaves(n + 1, k, rules_without_stops(n, k, rules)) else 0]
+
+
+def count(n, k, good, length, p, rules):
+    """How many words of that length are taken, modulo p."""
+    if not sizes_fit(n, k) or not in_range(length, 0, LONGEST_COUNTED):
+        return [OUT_OF_RANGE]
+    if not in_range(p, LEAST_MODULUS, MOST_MODULUS):
+        return [OUT_OF_RANGE]
+    if not rules_fit(n, k, rules) or not good_fits(n, good):
+        return [NOT_AS_TOLD]
+    return [count_taken(kinds_of_words(n, k, good, rules), length, p)]
+
+
 def walk(n, k, rules, word):
     """The ending of the run on the word."""
     row = [k] + word + [k + 1]
@@ -149,10 +172,29 @@ def crossing_state(n, k, rules, known, sign, state):
     return NEVER
 
 
+def leaving_state(n, k, rules, known):
+    """The state in which it leaves on a word of this table; NEVER if it doesn't."""
+    return longer_table(n, k, rules, known, k + 1)[0]
+
+
 def is_taken(n, k, good, rules, known):
     """Whether a word of this table is taken."""
-    state = longer_table(n, k, rules, known, k + 1)[0]
+    state = leaving_state(n, k, rules, known)
     return state != NEVER and (good >> state) & 1 == 1
+
+
+def rules_without_stops(n, k, rules):
+    """The rules of a machine with one state more, that leaves in that state where this one stops.
+
+    A table doesn't tell whether it stops or goes on for ever. Of a machine that never stops it need not.
+    """
+    away = 2 * n + 1
+    return [away if rule == STOP_RULE else rule for rule in rules] + [away] * (k + 2)
+
+
+def always_leaves(n, k, rules):
+    """Whether it leaves on every word."""
+    return all([leaving_state(n, k, rules, known) != NEVER for known in reach_tables(n, k, rules)])
 
 
 def reach_tables(n, k, rules):
@@ -229,6 +271,21 @@ def number_kinds(marks):
     for known in marks:
         kinds[known] = numbers.setdefault(marks[known], len(numbers))
     return kinds
+
+
+def count_taken(kinds, length, p):
+    """How many words of that length are taken, modulo p, if these are the kinds of words."""
+    # For each kind, how many words of some letters are taken when they are put behind it: of no letter, then of more.
+    ways = [1 if kind[0] else 0 for kind in kinds]
+    for letters in range(length):
+        ways = [count_longer(kind, ways, p) for kind in kinds]
+    # The word of no letter is the first one of all, so its kind is the first.
+    return ways[0]
+
+
+def count_longer(kind, ways, p):
+    """The kind's own number of ways with one letter more, modulo p."""
+    return sum([ways[longer] for longer in kind[1:]]) % p
 
 
 def goes_right(rule):
